@@ -152,20 +152,20 @@ func TestCompareRowsWrong(t *testing.T) {
 	}
 }
 
-// P1.4: the order of values is one: Same just where it is 0, turned round, and handed on.
-func TestOneOrder(t *testing.T) {
-	l := append(values(), wrongs()...)
-	for _, a := range l {
-		for _, b := range l {
-			ab := value.Compare(a, b)
-			if ab != -value.Compare(b, a) || (ab == 0) != value.Same(a, b) {
-				t.Fatalf("%v, %v", a, b)
+// oneOrder fails, if the order of l, in which no two are the same, is none: told apart just where they are two, turned round, and handed on.
+func oneOrder[T any](t *testing.T, l []T, compare func(a, b T) int) {
+	t.Helper()
+	for i, a := range l {
+		for k, b := range l {
+			ab := compare(a, b)
+			if ab != -compare(b, a) || (ab == 0) != (i == k) {
+				t.Fatalf("%v, %v: got %d", a, b, ab)
 			}
 			if ab > 0 {
 				continue
 			}
 			for _, c := range l {
-				if value.Compare(b, c) <= 0 && value.Compare(a, c) > 0 {
+				if compare(b, c) <= 0 && compare(a, c) > 0 {
 					t.Fatalf("%v, %v, %v", a, b, c)
 				}
 			}
@@ -173,23 +173,8 @@ func TestOneOrder(t *testing.T) {
 	}
 }
 
-// P1.4: the order of rows is one.
-func TestOneOrderOfRows(t *testing.T) {
-	l := rowsOf([]api.Value{null, yes, num(-1), num(1), text("a"), wrong}, 2)
-	for i, a := range l {
-		for k, b := range l {
-			ab := value.CompareRows(a, b)
-			if ab != -value.CompareRows(b, a) || (ab == 0) != (i == k) {
-				t.Fatalf("%v, %v", a, b)
-			}
-			if ab > 0 {
-				continue
-			}
-			for _, c := range l {
-				if value.CompareRows(b, c) <= 0 && value.CompareRows(a, c) > 0 {
-					t.Fatalf("%v, %v, %v", a, b, c)
-				}
-			}
-		}
-	}
+// P1.4: the order of values is one, and so is that of rows.
+func TestOneOrder(t *testing.T) {
+	oneOrder(t, append(values(), wrongs()...), value.Compare)
+	oneOrder(t, rowsOf([]api.Value{null, yes, num(-1), num(1), text("a"), wrong}, 2), value.CompareRows)
 }
